@@ -1,0 +1,1 @@
+"""Marked-up texts, in pieces of any size, brought to one form."""
