@@ -52,7 +52,7 @@ class Text:
         if step is None:
             self.held = data[at:]
             return [0, len(given)] + made
-        # Bytes of this call come again with the next one; those of earlier calls don't.
+        # Bytes of this call that were not worked on are not kept: the next call may bring others in their place.
         self.held = data[at:earlier]
         return [0, max(0, at - earlier)] + made
 
@@ -87,7 +87,6 @@ class Text:
             if not is_blank(byte):
                 raise Fault()
             return []
-        # Within a section this never holds: there > behind two ] is the section's end.
         if byte == GREATER and self.brackets >= 2:
             raise Fault()
         return text_form([byte])
@@ -117,8 +116,7 @@ class Text:
 
     def do_step(self, step):
         self.at_begin = False
-        # Only bytes that stand side by side count: a reference to ] or a mark between them breaks the row.
-        self.brackets = self.brackets + 1 if step.kind == BYTE and step.made == [BRACKET] else 0
+        self.brackets = self.brackets_behind(step)
         if step.kind == SECTION_BEGIN:
             self.in_section = True
         elif step.kind == SECTION_END:
@@ -131,3 +129,10 @@ class Text:
             self.names_size -= len(step.name)
         if step.kind in (EMPTY, END) and not self.names:
             self.has_ended = True
+
+    # Only bytes that stand side by side count: a reference to ] or a mark between them breaks the row.
+    # In a section none counts: a ] worked on there may stand ahead of a > that is no part of the section's end.
+    def brackets_behind(self, step):
+        if self.in_section or step.kind != BYTE or step.made != [BRACKET]:
+            return 0
+        return self.brackets + 1
